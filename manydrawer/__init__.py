@@ -1,0 +1,1 @@
+"""Manydrawer: numbered cards in drawers under drawers."""
