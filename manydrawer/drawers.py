@@ -1,5 +1,12 @@
 """Drawers: the tuples (cards, below, held) that a cabinet is made of."""
 
+from manydrawer.errors import NoWidth
+
+
+def check_width(width):
+    if width < 2:
+        raise NoWidth("the width is below 2")
+
 
 def half_of(width):
     return width // 2

@@ -1,7 +1,50 @@
-"""What the tests share: making drawers by hand, the rules of points 2 to 4, and a second way of doing each deed."""
+"""What the tests share: making drawers by hand, the rules of points 2 to 5, and a second way of doing each deed."""
 
 EMPTY = ((), (), 0)
 HUGE = 10 ** 99 + 7
+
+# Cabinets written out, of one, two and three levels, each with the widths that it may have.
+ONE_LEVEL = (((-HUGE, "lowest of all"), (-3, ""), (0, " "), (8, "a, b; c: #1!")), (), 4)
+TWO_LEVELS = (
+    ((-5, ""), (20, "two\nrows")),
+    (
+        (((-HUGE, "- ~ -"), (-9, "")), (), 2),
+        (((0, "nought"), (7, "  "), (19, "")), (), 3),
+        (((21, "'"), (HUGE, "None")), (), 2),
+    ),
+    9,
+)
+THREE_LEVELS = (
+    ((0, "top"),),
+    (
+        (
+            ((-40, ""), (-20, "left")),
+            (
+                (((-HUGE - 1, ""), (-HUGE, "x y")), (), 2),
+                (((-30, "0"),), (), 1),
+                (((-12, "("), (-10, ")")), (), 2),
+            ),
+            7,
+        ),
+        (
+            ((30, ""),),
+            (
+                (((10, "\\"),), (), 1),
+                (((HUGE, ""), (HUGE + 2, "end")), (), 2),
+            ),
+            4,
+        ),
+    ),
+    12,
+)
+SAMPLES = (
+    (EMPTY, (2, 3, 4, 600)),
+    ((((5, "alone"),), (), 1), (2, 3, 4, 600)),
+    (ONE_LEVEL, (4, 5, 9)),
+    (TWO_LEVELS, (3, 4, 5)),
+    (THREE_LEVELS, (2, 3)),
+)
+SAMPLE_TOPS = tuple([top for top, widths in SAMPLES])
 
 
 def card(number):
@@ -52,6 +95,18 @@ def faults(width, top, least=0):
     return found
 
 
+def level_faults(width, top):
+    """The bounds of point 5 that a cabinet breaks, given that its bottom drawers lie equally deep."""
+    count = len(cards_in(top)) + 1
+    levels = depths(top)[0]
+    found = []
+    if count > (width + 1) ** levels:
+        found.append("too many cards on %d levels" % levels)
+    if levels > 1 and count < 2 * (width // 2 + 1) ** (levels - 1):
+        found.append("too few cards on %d levels" % levels)
+    return found
+
+
 def faults_of_one(width, one, least):
     if type(one) is not tuple or len(one) != 3 or type(one[0]) is not tuple or type(one[1]) is not tuple:
         return ["no drawer: " + repr(one)]
@@ -72,6 +127,44 @@ def faults_of_one(width, one, least):
     if type(held) is not int or held != counted:
         found.append("held is %r, but there are %d cards" % (held, counted))
     return found
+
+
+def marks_around(top):
+    """The number of every card, the numbers right below and above it, and some far from all cards."""
+    marks = {0, 1, -10 ** 101, 10 ** 101}
+    for number in numbers_in(top):
+        marks.update([number - 1, number, number + 1])
+    return sorted(marks)
+
+
+class Notebook:
+    """A day kept in a plain dict of notes: what each deed is to answer, without any drawer."""
+
+    def __init__(self):
+        self.notes = {}
+
+    def cards(self):
+        return sorted(self.notes.items())
+
+    def answer(self, deed):
+        kind, first = deed[:2]
+        if kind == "put":
+            before = self.notes.get(first)
+            self.notes[first] = deed[2]
+            return before
+        if kind == "take":
+            return self.notes.pop(first, None)
+        if kind == "find":
+            return self.notes.get(first)
+        if kind == "rank":
+            return len([number for number in self.notes if number < first])
+        if kind == "nth":
+            return self.cards()[first] if 0 <= first < len(self.notes) else None
+        low, high = first, deed[2]
+        return [
+            each for each in self.cards()
+            if (low is None or low <= each[0]) and (high is None or each[0] <= high)
+        ]
 
 
 class Box:

@@ -1,8 +1,7 @@
 import unittest
 
-from helper import EMPTY, HUGE, Model, cards_in, faults
+from helper import EMPTY, HUGE, Model, cards_in, faults, level_faults
 from manydrawer.changing import put_in, take_out
-from manydrawer.drawers import levels_of
 from manydrawer.errors import NoCard
 
 WIDTHS = (2, 3, 4, 5, 6, 7, 16, 33)
@@ -14,11 +13,8 @@ class LongRows(unittest.TestCase):
     def check(self, width, top, model, kept):
         self.assertEqual(faults(width, top), [])
         self.assertEqual(cards_in(top), sorted(kept.items()))
+        self.assertEqual(level_faults(width, top), [])
         self.assertEqual(top, model.as_drawer())
-        levels = levels_of(top)
-        self.assertLessEqual(len(kept) + 1, (width + 1) ** levels)
-        if levels > 1:
-            self.assertGreaterEqual(len(kept) + 1, 2 * (width // 2 + 1) ** (levels - 1))
 
     def run_row(self, width, deeds):
         top = EMPTY
